@@ -1,0 +1,1 @@
+"""Foldrows: nested things laid out on rows of a width."""
