@@ -3,6 +3,7 @@ import itertools
 import unittest
 
 from foldrows.filling import filled
+from samples import ways_to_break
 
 ROOMS = range(-3, 25)
 
@@ -20,15 +21,6 @@ def small_lists():
     for count in range(6):
         for sizes in itertools.product((1, 2, 3, 5), repeat=count):
             yield [letter * size for letter, size in zip(letters, sizes)]
-
-
-def ways_to_break(words):
-    """Every way to break the words on rows, one word at least on each row."""
-    if not words:
-        yield []
-    for cut in range(1, len(words) + 1):
-        for rest in ways_to_break(words[cut:]):
-            yield [words[:cut]] + rest
 
 
 class FilledByHand(unittest.TestCase):

@@ -2,6 +2,7 @@ import copy
 import unittest
 
 from foldrows.flat import flat, flat_size
+from samples import EXAMPLE
 
 
 def nested_bundles(count, core):
@@ -28,8 +29,6 @@ def bundles_around(count, core):
 
 
 NUMBERED = [f"p{number}" for number in range(500)]
-
-EXAMPLE = ("bundle", "row", ["a", ("tag", "size", ("run", ["b", "2", "c"])), ("bundle", "pair", [])])
 
 # Each row: what it shows, the thing, and the text that point 4 asks for.
 CASES = [

@@ -169,6 +169,18 @@ class Names(unittest.TestCase):
                 self.assertRegex(bound, r"^[A-Za-z][A-Za-z0-9_]*$", name)
                 self.assertNotIn(bound, PYTHONS_OWN, name)
 
+    def test_no_name_of_a_file_is_called_like_one_that_it_draws_in(self):
+        for name, tree in trees().items():
+            self.assertEqual(bound_names(tree) & imported_names(tree), set(), name)
+
+    def test_no_parameter_and_no_local_is_called_like_a_class_of_its_file(self):
+        for name, tree in trees().items():
+            classes = {node.name for node in tree.body if isinstance(node, ast.ClassDef)}
+            inner = {node.id for node in ast.walk(tree) if isinstance(node, ast.Name)
+                     and isinstance(node.ctx, ast.Store)}
+            inner |= {node.arg for node in ast.walk(tree) if isinstance(node, ast.arg)}
+            self.assertEqual(classes & inner, set(), name)
+
     def test_only_the_listed_methods_are_called(self):
         own = set().union(*(bound_names(tree) for tree in trees().values()))
         stored = {node.attr for _, node in nodes() if isinstance(node, ast.Attribute)
